@@ -55,3 +55,42 @@ func must(n, code int) int {
 	}
 	return n
 }
+
+// mustExt is likewise of elements.
+func mustExt(a impl.Ext, code int) impl.Ext {
+	if code != impl.OK {
+		return impl.Ext{A: -1, B: -1}
+	}
+	return a
+}
+
+// someExts are elements of the edges of both parts, and n mixed ones.
+func someExts(n int) []impl.Ext {
+	var list []impl.Ext
+	edges := []int{0, 1, 2, 65536, (prime + 1) / 2, prime - 2, prime - 1}
+	for _, a := range edges {
+		for _, b := range edges {
+			list = append(list, impl.Ext{A: a, B: b})
+		}
+	}
+	return append(list, mixedExts(n)...)
+}
+
+func mixedExts(n int) []impl.Ext {
+	d := draws(uint64(n) + 5)
+	list := make([]impl.Ext, n)
+	for i := range list {
+		list[i] = impl.Ext{A: d.next(), B: d.next()}
+	}
+	return list
+}
+
+// wrongExts have a wrong A, a wrong B, or both.
+func wrongExts() []impl.Ext {
+	var list []impl.Ext
+	for i, bad := range wrongNumbers {
+		list = append(list, impl.Ext{A: bad}, impl.Ext{B: bad}, impl.Ext{A: bad, B: prime - 1}, impl.Ext{A: 1, B: bad},
+			impl.Ext{A: bad, B: wrongNumbers[len(wrongNumbers)-1-i]})
+	}
+	return list
+}

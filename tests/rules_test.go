@@ -59,10 +59,56 @@ func batchLists() [][]int {
 	}
 }
 
+func extLists() [][]impl.Ext {
+	return [][]impl.Ext{
+		nil, {}, {ext0}, {ext1, extX}, {ext1, {B: prime}}, {{A: math.MinInt, B: math.MaxInt}}, someExts(5), wrongExts(),
+		mixedExts(impl.MaxList), mixedExts(impl.MaxList + 1),
+	}
+}
+
+func byteLists() [][]byte {
+	return [][]byte{
+		nil, {}, {7}, make([]byte, 8), make([]byte, 9), bytesOf(mixedExts(3)), []byte("\x7f\x00\x00\x01\x00\x00\x00\x00"), []byte("\xff\xff\xff\xff\xff\xff\xff\xff"),
+		make([]byte, 8*impl.MaxList), make([]byte, 8*impl.MaxList+8), make([]byte, impl.MaxText), make([]byte, impl.MaxText+1),
+	}
+}
+
 func listCalls() []call {
 	var calls []call
 	for i, list := range batchLists() {
 		calls = append(calls, call{fmt.Sprint("BatchInverse ", i), func() string { return told(impl.BatchInverse(list)) }})
+	}
+	for i, b := range byteLists() {
+		calls = append(calls, call{fmt.Sprint("ReadExts ", i), func() string { return told(impl.ReadExts(b)) }})
+	}
+	for i, a := range extLists() {
+		calls = append(calls, call{fmt.Sprint("ExtBytes ", i), func() string { return told(impl.ExtBytes(a)) }})
+		for j, b := range extLists() {
+			calls = append(calls, call{fmt.Sprint("ExtDot ", i, j), func() string { return told(impl.ExtDot(a, b)) }})
+		}
+	}
+	return calls
+}
+
+func elementCalls() []call {
+	var calls []call
+	list := append(someExts(0), wrongExts()...)
+	for _, a := range list {
+		calls = append(calls,
+			call{fmt.Sprint("ExtOK ", a), func() string { return told(impl.ExtOK(a)) }},
+			call{fmt.Sprint("ExtInverse ", a), func() string { return told(impl.ExtInverse(a)) }},
+			call{fmt.Sprint("Norm ", a), func() string { return told(impl.Norm(a)) }},
+		)
+		for _, b := range list {
+			calls = append(calls,
+				call{fmt.Sprint("ExtAdd ", a, b), func() string { return told(impl.ExtAdd(a, b)) }},
+				call{fmt.Sprint("ExtSub ", a, b), func() string { return told(impl.ExtSub(a, b)) }},
+				call{fmt.Sprint("ExtMul ", a, b), func() string { return told(impl.ExtMul(a, b)) }},
+			)
+		}
+		for _, n := range []int{0, 1, 2, 77, math.MaxInt, -1, math.MinInt} {
+			calls = append(calls, call{fmt.Sprint("ExtPow ", a, n), func() string { return told(impl.ExtPow(a, n)) }})
+		}
 	}
 	return calls
 }
@@ -77,7 +123,7 @@ func answerOf(t *testing.T, c call) (answer string) {
 }
 
 func TestAlikeArgumentsHaveAlikeAnswers(t *testing.T) {
-	calls := slices.Concat(textCalls(), numberCalls(), listCalls())
+	calls := slices.Concat(textCalls(), numberCalls(), listCalls(), elementCalls())
 	first := make([]string, len(calls))
 	for i, c := range calls {
 		first[i] = answerOf(t, c)
@@ -89,50 +135,82 @@ func TestAlikeArgumentsHaveAlikeAnswers(t *testing.T) {
 	}
 }
 
-// roomy is a list with numbers behind its end, and all of its memory.
-func roomy(list []int) ([]int, []int) {
-	all := append(slices.Clone(list), 11, 22, 33, 44)
+// roomy is a list with elements behind its end, and all of its memory.
+func roomy[T any](list []T, behind T) ([]T, []T) {
+	all := append(slices.Clone(list), behind, behind, behind, behind)
 	return all[:len(list)], all
 }
 
-func TestNoCallChangesAnArgument(t *testing.T) {
-	for i, list := range batchLists() {
-		given, all := roomy(list)
+// keepsItsList holds a list, and what lies behind its end, against what it was ahead of a call.
+func keepsItsList[T comparable](t *testing.T, name string, lists [][]T, behind T, does func(list []T)) {
+	t.Helper()
+	for i, list := range lists {
+		given, all := roomy(list, behind)
 		kept := slices.Clone(all)
-		impl.BatchInverse(given)
+		does(given)
 		if !slices.Equal(all, kept) {
-			t.Error("list", i, "is changed, or what lies behind its end")
+			t.Error(name, "changes list", i, "or what lies behind its end")
+		}
+	}
+}
+
+func TestNoCallChangesAnArgument(t *testing.T) {
+	mark := impl.Ext{A: 11, B: 22}
+	keepsItsList(t, "BatchInverse", batchLists(), 11, func(list []int) { impl.BatchInverse(list) })
+	keepsItsList(t, "ReadExts", byteLists(), 11, func(b []byte) { impl.ReadExts(b) })
+	keepsItsList(t, "ExtBytes", extLists(), mark, func(list []impl.Ext) { impl.ExtBytes(list) })
+	for _, other := range extLists() {
+		keepsItsList(t, "ExtDot", extLists(), mark, func(list []impl.Ext) {
+			impl.ExtDot(list, other)
+			impl.ExtDot(other, list)
+			impl.ExtDot(list, list)
+		})
+	}
+}
+
+// answersNewMemory writes into an answer, behind its end, and into the argument; nothing else is to follow.
+func answersNewMemory[T, U comparable](t *testing.T, name string, lists [][]T, behind T, mark U, does func(list []T) ([]U, int)) {
+	t.Helper()
+	for i, list := range lists {
+		given, all := roomy(list, behind)
+		kept := slices.Clone(all)
+		one, _ := does(given)
+		two, _ := does(given)
+		want := slices.Clone(two)
+		one = one[:cap(one)]
+		for j := range one {
+			one[j] = mark
+		}
+		if !slices.Equal(all, kept) || !slices.Equal(two, want) {
+			t.Error(name, "shares memory of list", i, "with an answer, or two answers share some")
+		}
+		for j := range all {
+			all[j] = behind
+		}
+		if !slices.Equal(two, want) {
+			t.Error(name, "answers memory of list", i)
 		}
 	}
 }
 
 func TestAnswersAreNewMemory(t *testing.T) {
-	for i, list := range batchLists() {
-		given, all := roomy(list)
-		kept := slices.Clone(all)
-		one, _ := impl.BatchInverse(given)
-		two, _ := impl.BatchInverse(given)
-		want := slices.Clone(two)
-		for j := range one {
-			one[j] = -5
-		}
-		_ = append(one, -6)
-		if !slices.Equal(all, kept) || !slices.Equal(two, want) {
-			t.Error("list", i, "shares memory with an answer, or two answers share some")
-		}
-		for j := range all {
-			all[j] = -7
-		}
-		if !slices.Equal(two, want) {
-			t.Error("an answer shares memory with list", i)
-		}
+	mark := impl.Ext{A: -5, B: -5}
+	answersNewMemory(t, "BatchInverse", batchLists(), 11, -5, impl.BatchInverse)
+	answersNewMemory(t, "ReadExts", byteLists(), 11, mark, impl.ReadExts)
+	answersNewMemory(t, "ExtBytes", extLists(), mark, 99, impl.ExtBytes)
+}
+
+func emptyIsNil[T, U any](t *testing.T, name string, does func(list []T) ([]U, int)) {
+	t.Helper()
+	one, codeOne := does(nil)
+	two, codeTwo := does([]T{})
+	if len(one) != 0 || len(two) != 0 || codeOne != impl.OK || codeTwo != impl.OK {
+		t.Error(name, one, two, codeOne, codeTwo)
 	}
 }
 
 func TestEmptyListIsNil(t *testing.T) {
-	one, codeOne := impl.BatchInverse(nil)
-	two, codeTwo := impl.BatchInverse([]int{})
-	if len(one) != 0 || len(two) != 0 || codeOne != impl.OK || codeTwo != impl.OK {
-		t.Error(one, two, codeOne, codeTwo)
-	}
+	emptyIsNil(t, "BatchInverse", impl.BatchInverse)
+	emptyIsNil(t, "ReadExts", impl.ReadExts)
+	emptyIsNil(t, "ExtBytes", impl.ExtBytes)
 }
