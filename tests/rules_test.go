@@ -21,10 +21,12 @@ func told(values ...any) string { return fmt.Sprintln(values...) }
 
 func textCalls() []call {
 	var calls []call
-	for i, text := range []string{"", "a", "ok", "zero", "no such word", "\x00\xff", "_9", strings.Repeat("a", 40), strings.Repeat("a", 41), strings.Repeat("x", impl.MaxText), strings.Repeat("x", impl.MaxText+1)} {
+	for i, text := range []string{"", "a", "ok", "zero", "no such word", "\x00\xff", "_9", strings.Repeat("a", 40), strings.Repeat("a", 41), strings.Repeat("h", 31), strings.Repeat("h", 32), strings.Repeat("h", 33), strings.Repeat("s", 199), strings.Repeat("s", 200), strings.Repeat("s", 201), strings.Repeat("x", impl.MaxText), strings.Repeat("x", impl.MaxText+1)} {
 		calls = append(calls,
 			call{fmt.Sprint("NameOK ", i), func() string { return told(impl.NameOK(text)) }},
 			call{fmt.Sprint("CodeOf ", i), func() string { return told(impl.CodeOf(text)) }},
+			call{fmt.Sprint("Permute ", i), func() string { return told(impl.Permute(text)) }},
+			call{fmt.Sprint("HashText ", i), func() string { return told(impl.HashText(text)) }},
 		)
 	}
 	return calls
@@ -39,6 +41,7 @@ func numberCalls() []call {
 			call{fmt.Sprint("FieldOK ", a), func() string { return told(impl.FieldOK(a)) }},
 			call{fmt.Sprint("Inverse ", a), func() string { return told(impl.Inverse(a)) }},
 			call{fmt.Sprint("RootOf ", a), func() string { return told(impl.RootOf(a)) }},
+			call{fmt.Sprint("KeccakCalls ", a), func() string { return told(impl.KeccakCalls(a)) }},
 		)
 		for _, b := range list {
 			calls = append(calls,
@@ -68,7 +71,7 @@ func extLists() [][]impl.Ext {
 
 func byteLists() [][]byte {
 	return [][]byte{
-		nil, {}, {7}, make([]byte, 8), make([]byte, 9), bytesOf(mixedExts(3)), []byte("\x7f\x00\x00\x01\x00\x00\x00\x00"), []byte("\xff\xff\xff\xff\xff\xff\xff\xff"),
+		nil, {}, {7}, make([]byte, 8), make([]byte, 9), mixedBytes(135), mixedBytes(136), mixedBytes(137), mixedBytes(272), bytesOf(mixedExts(3)), []byte("\x7f\x00\x00\x01\x00\x00\x00\x00"), []byte("\xff\xff\xff\xff\xff\xff\xff\xff"),
 		make([]byte, 8*impl.MaxList), make([]byte, 8*impl.MaxList+8), make([]byte, impl.MaxText), make([]byte, impl.MaxText+1),
 	}
 }
@@ -79,7 +82,10 @@ func listCalls() []call {
 		calls = append(calls, call{fmt.Sprint("BatchInverse ", i), func() string { return told(impl.BatchInverse(list)) }})
 	}
 	for i, b := range byteLists() {
-		calls = append(calls, call{fmt.Sprint("ReadExts ", i), func() string { return told(impl.ReadExts(b)) }})
+		calls = append(calls,
+			call{fmt.Sprint("ReadExts ", i), func() string { return told(impl.ReadExts(b)) }},
+			call{fmt.Sprint("Keccak256 ", i), func() string { return told(impl.Keccak256(b)) }},
+		)
 	}
 	for i, a := range extLists() {
 		calls = append(calls, call{fmt.Sprint("ExtBytes ", i), func() string { return told(impl.ExtBytes(a)) }})
@@ -158,6 +164,7 @@ func TestNoCallChangesAnArgument(t *testing.T) {
 	mark := impl.Ext{A: 11, B: 22}
 	keepsItsList(t, "BatchInverse", batchLists(), 11, func(list []int) { impl.BatchInverse(list) })
 	keepsItsList(t, "ReadExts", byteLists(), 11, func(b []byte) { impl.ReadExts(b) })
+	keepsItsList(t, "Keccak256", byteLists(), 11, func(b []byte) { impl.Keccak256(b) })
 	keepsItsList(t, "ExtBytes", extLists(), mark, func(list []impl.Ext) { impl.ExtBytes(list) })
 	for _, other := range extLists() {
 		keepsItsList(t, "ExtDot", extLists(), mark, func(list []impl.Ext) {
