@@ -21,12 +21,20 @@ func told(values ...any) string { return fmt.Sprintln(values...) }
 
 func textCalls() []call {
 	var calls []call
-	for i, text := range []string{"", "a", "ok", "zero", "no such word", "\x00\xff", "_9", strings.Repeat("a", 40), strings.Repeat("a", 41), strings.Repeat("h", 31), strings.Repeat("h", 32), strings.Repeat("h", 33), strings.Repeat("s", 199), strings.Repeat("s", 200), strings.Repeat("s", 201), strings.Repeat("x", impl.MaxText), strings.Repeat("x", impl.MaxText+1)} {
+	for i, text := range []string{"", "a", "ok", "zero", "no such word", "\x00\xff", "_9", strings.Repeat("a", 40), strings.Repeat("a", 41), strings.Repeat("h", 31), strings.Repeat("h", 32), strings.Repeat("h", 33), strings.Repeat("l", 64), strings.Repeat("l", 65), strings.Repeat("s", 199), strings.Repeat("s", 200), strings.Repeat("s", 201), strings.Repeat("x", impl.MaxText), strings.Repeat("x", impl.MaxText+1)} {
 		calls = append(calls,
 			call{fmt.Sprint("NameOK ", i), func() string { return told(impl.NameOK(text)) }},
 			call{fmt.Sprint("CodeOf ", i), func() string { return told(impl.CodeOf(text)) }},
 			call{fmt.Sprint("Permute ", i), func() string { return told(impl.Permute(text)) }},
 			call{fmt.Sprint("HashText ", i), func() string { return told(impl.HashText(text)) }},
+			call{fmt.Sprint("LeafHash ", i), func() string { return told(impl.LeafHash(text)) }},
+			call{fmt.Sprint("NodeHash ", i), func() string { return told(impl.NodeHash(text, strings.Repeat("h", 32))) }},
+			call{fmt.Sprint("NodeHash behind ", i), func() string { return told(impl.NodeHash(strings.Repeat("h", 32), text)) }},
+			call{fmt.Sprint("CheckPath to ", i), func() string { return told(impl.CheckPath(text, 2, 1, "a", []string{text})) }},
+			call{fmt.Sprint("CheckPath of ", i), func() string { return told(impl.CheckPath(hashed("\x00", text), 1, 0, text, nil)) }},
+			call{fmt.Sprint("ExtractCollision of ", i), func() string {
+				return told(impl.ExtractCollision(hashed("\x00", text), 1, 0, text, nil, text, nil))
+			}},
 		)
 	}
 	return calls
@@ -96,6 +104,36 @@ func listCalls() []call {
 	return calls
 }
 
+// textLists are leaves, and paths of them.
+func textLists() [][]string {
+	return [][]string{
+		nil, {}, {""}, {"a"}, {"a", "b", "", "d"}, make([]string, 3), {strings.Repeat("a", 65)}, {"", strings.Repeat("a", tooLong)},
+		plainPath(mixedLeaves(8), 5), plainPath(mixedLeaves(256), 5), {strings.Repeat("h", 31)}, {strings.Repeat("h", 32)}, mixedLeaves(8), mixedLeaves(256), make([]string, 512),
+		make([]string, impl.MaxList), make([]string, impl.MaxList+1),
+	}
+}
+
+// treeAnswers asks everything about trees with a list as the leaves or as a path.
+func treeAnswers(list []string, n, i int) string {
+	root := plainRoot(mixedLeaves(8))
+	return told(impl.MerklePath(list, i)) +
+		told(impl.CheckPath(root, n, i, mixedLeaves(8)[5], list)) +
+		told(impl.ExtractCollision(root, n, i, mixedLeaves(8)[5], list, mixedLeaves(8)[5], list))
+}
+
+func treeCalls() []call {
+	var calls []call
+	for l, list := range textLists() {
+		calls = append(calls, call{fmt.Sprint("MerkleRoot ", l), func() string { return told(impl.MerkleRoot(list)) }})
+		for _, n := range []int{0, 1, 3, 8, 256, 257, -1, math.MaxInt, math.MinInt} {
+			for _, i := range []int{0, 5, 7, 8, -1, math.MaxInt, math.MinInt} {
+				calls = append(calls, call{fmt.Sprint("trees ", l, n, i), func() string { return treeAnswers(list, n, i) }})
+			}
+		}
+	}
+	return calls
+}
+
 func elementCalls() []call {
 	var calls []call
 	list := append(someExts(0), wrongExts()...)
@@ -129,7 +167,7 @@ func answerOf(t *testing.T, c call) (answer string) {
 }
 
 func TestAlikeArgumentsHaveAlikeAnswers(t *testing.T) {
-	calls := slices.Concat(textCalls(), numberCalls(), listCalls(), elementCalls())
+	calls := slices.Concat(textCalls(), numberCalls(), listCalls(), treeCalls(), elementCalls())
 	first := make([]string, len(calls))
 	for i, c := range calls {
 		first[i] = answerOf(t, c)
@@ -166,6 +204,8 @@ func TestNoCallChangesAnArgument(t *testing.T) {
 	keepsItsList(t, "ReadExts", byteLists(), 11, func(b []byte) { impl.ReadExts(b) })
 	keepsItsList(t, "Keccak256", byteLists(), 11, func(b []byte) { impl.Keccak256(b) })
 	keepsItsList(t, "ExtBytes", extLists(), mark, func(list []impl.Ext) { impl.ExtBytes(list) })
+	keepsItsList(t, "MerkleRoot", textLists(), "behind", func(list []string) { impl.MerkleRoot(list) })
+	keepsItsList(t, "MerklePath, CheckPath, ExtractCollision", textLists(), "behind", func(list []string) { treeAnswers(list, 8, 5) })
 	for _, other := range extLists() {
 		keepsItsList(t, "ExtDot", extLists(), mark, func(list []impl.Ext) {
 			impl.ExtDot(list, other)
@@ -205,6 +245,7 @@ func TestAnswersAreNewMemory(t *testing.T) {
 	answersNewMemory(t, "BatchInverse", batchLists(), 11, -5, impl.BatchInverse)
 	answersNewMemory(t, "ReadExts", byteLists(), 11, mark, impl.ReadExts)
 	answersNewMemory(t, "ExtBytes", extLists(), mark, 99, impl.ExtBytes)
+	answersNewMemory(t, "MerklePath", textLists(), "behind", "mark", func(leaves []string) ([]string, int) { return impl.MerklePath(leaves, 0) })
 }
 
 func emptyIsNil[T, U any](t *testing.T, name string, does func(list []T) ([]U, int)) {
@@ -220,4 +261,9 @@ func TestEmptyListIsNil(t *testing.T) {
 	emptyIsNil(t, "BatchInverse", impl.BatchInverse)
 	emptyIsNil(t, "ReadExts", impl.ReadExts)
 	emptyIsNil(t, "ExtBytes", impl.ExtBytes)
+	for _, n := range []int{0, 1, 2} {
+		if one, two := treeAnswers(nil, n, 0), treeAnswers([]string{}, n, 0); one != two {
+			t.Error("trees of", n, one, two)
+		}
+	}
 }
