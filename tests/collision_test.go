@@ -1,13 +1,6 @@
 package tests
 
 import (
-	"go/ast"
-	"go/format"
-	"go/parser"
-	"go/token"
-	"os"
-	"os/exec"
-	"path/filepath"
 	"slices"
 	"strings"
 	"testing"
@@ -33,70 +26,11 @@ func Keccak256(b []byte) string {
 
 func isWeak(h string) bool { return len(h) == 32 && h[1:] == strings.Repeat("\x00", 31) }
 
-// weakCopy lays out the program and its tests with the weak hash in the strong one's place.
-func weakCopy(t *testing.T) string {
-	t.Helper()
-	dir := t.TempDir()
-	tests, err := filepath.Glob("*_test.go")
-	if err != nil {
-		t.Fatal(err)
-	}
-	for _, file := range slices.Concat(programFiles(t), tests, []string{"../go.mod"}) {
-		text, err := os.ReadFile(file)
-		if err != nil {
-			t.Fatal(err)
-		}
-		if strings.HasPrefix(file, "../impl") {
-			text = withoutStrongHash(t, text)
-		}
-		layFile(t, filepath.Join(dir, "tests", file), text)
-	}
-	layFile(t, filepath.Join(dir, "impl", "weak_hash.go"), []byte(weakHash))
-	return dir
-}
-
-func layFile(t *testing.T, place string, text []byte) {
-	t.Helper()
-	if err := os.MkdirAll(filepath.Dir(place), 0o755); err != nil {
-		t.Fatal(err)
-	}
-	if err := os.WriteFile(place, text, 0o644); err != nil {
-		t.Fatal(err)
-	}
-}
-
-func withoutStrongHash(t *testing.T, text []byte) []byte {
-	t.Helper()
-	files := token.NewFileSet()
-	file, err := parser.ParseFile(files, "", text, parser.ParseComments)
-	if err != nil {
-		t.Fatal(err)
-	}
-	for _, d := range file.Decls {
-		if f, ok := d.(*ast.FuncDecl); ok && f.Name.Name == "Keccak256" {
-			f.Name.Name = "strongKeccak256"
-		}
-	}
-	var laid strings.Builder
-	if err := format.Node(&laid, files, file); err != nil {
-		t.Fatal(err)
-	}
-	return []byte(laid.String())
-}
-
 func TestCollisionsOfAWeakHash(t *testing.T) {
 	if isWeak(impl.Keccak256(nil)) {
 		t.Skip("this is the copy")
 	}
-	command := exec.Command("go", "test", "-vet=off", "-count=1", "-v", "-run", "^TestCollisionsAreTold$", "./tests")
-	command.Dir = weakCopy(t)
-	said, err := command.CombinedOutput()
-	if err != nil {
-		t.Fatal(err, string(said))
-	}
-	if strings.Contains(string(said), "--- SKIP") {
-		t.Skip(string(said))
-	}
+	asksACopy(t, weakHash, "TestCollisionsAreTold")
 }
 
 type wayUp struct {

@@ -134,6 +134,46 @@ func treeCalls() []call {
 	return calls
 }
 
+// scripts are of lengths that a source may have, and of others.
+func scripts() [][]impl.Ext {
+	return append(extLists(), mixedExts(1), mixedExts(2), mixedExts(63), mixedExts(64), mixedExts(65), extsWith(64, 63, impl.Ext{A: -1}))
+}
+
+// sourceAnswers asks everything of a source.
+func sourceAnswers(s impl.Source, n, most int) string {
+	return told(impl.SourceOK(s)) + told(impl.TakeOne(s)) + told(impl.TakeSome(s, n)) + told(impl.TakePlaces(s, n, most)) +
+		told(impl.AbsorbText(s, "text")) + told(impl.AbsorbExts(s, s.Script)) +
+		told(impl.GrindNonce(s, n)) + told(impl.CheckNonce(s, n, most))
+}
+
+func sourceCalls() []call {
+	var calls []call
+	for i, text := range []string{"", "a", strings.Repeat("l", 100), strings.Repeat("l", 101), strings.Repeat("x", impl.MaxText), strings.Repeat("x", tooLong)} {
+		for j, s := range append(rightSources()[:5], wrongSources()[:5]...) {
+			calls = append(calls, call{fmt.Sprint("AbsorbText ", i, j), func() string { return told(impl.AbsorbText(s, text)) }})
+		}
+		calls = append(calls, call{fmt.Sprint("NewSponge ", i), func() string { return told(impl.NewSponge(text)) }})
+		for j, list := range scripts() {
+			calls = append(calls, call{fmt.Sprint("NewScript ", i, j), func() string { return told(impl.NewScript(text, list)) }})
+		}
+	}
+	sources := wrongSources()
+	for i, list := range scripts() {
+		calls = append(calls, call{fmt.Sprint("AbsorbExts ", i), func() string { return told(impl.AbsorbExts(rightSources()[i], list)) }})
+		for _, used := range []int{0, allDraws - 1, allDraws} {
+			sources = append(sources, impl.Source{Script: list, State: hashed("rules"), At: used}, impl.Source{Script: list, State: hashed("rules"), Count: used})
+		}
+	}
+	for i, s := range sources {
+		for _, n := range []int{0, 1, 5, 100, -1, math.MaxInt, math.MinInt} {
+			for _, most := range []int{0, 1, 65535, 65536, 65537, -1, math.MaxInt, math.MinInt} {
+				calls = append(calls, call{fmt.Sprint("sources ", i, n, most), func() string { return sourceAnswers(s, n, most) }})
+			}
+		}
+	}
+	return calls
+}
+
 func elementCalls() []call {
 	var calls []call
 	list := append(someExts(0), wrongExts()...)
@@ -167,7 +207,7 @@ func answerOf(t *testing.T, c call) (answer string) {
 }
 
 func TestAlikeArgumentsHaveAlikeAnswers(t *testing.T) {
-	calls := slices.Concat(textCalls(), numberCalls(), listCalls(), treeCalls(), elementCalls())
+	calls := slices.Concat(textCalls(), numberCalls(), listCalls(), treeCalls(), sourceCalls(), elementCalls())
 	first := make([]string, len(calls))
 	for i, c := range calls {
 		first[i] = answerOf(t, c)
@@ -206,6 +246,13 @@ func TestNoCallChangesAnArgument(t *testing.T) {
 	keepsItsList(t, "ExtBytes", extLists(), mark, func(list []impl.Ext) { impl.ExtBytes(list) })
 	keepsItsList(t, "MerkleRoot", textLists(), "behind", func(list []string) { impl.MerkleRoot(list) })
 	keepsItsList(t, "MerklePath, CheckPath, ExtractCollision", textLists(), "behind", func(list []string) { treeAnswers(list, 8, 5) })
+	keepsItsList(t, "NewScript", scripts(), mark, func(list []impl.Ext) { impl.NewScript("label", list) })
+	keepsItsList(t, "AbsorbExts", scripts(), mark, func(list []impl.Ext) { impl.AbsorbExts(spongeNamed(t, "label"), list) })
+	for _, used := range []int{0, allDraws} {
+		keepsItsList(t, "a source's call", scripts(), mark, func(list []impl.Ext) {
+			sourceAnswers(impl.Source{Script: list, State: hashed("rules"), At: used}, 5, 9)
+		})
+	}
 	for _, other := range extLists() {
 		keepsItsList(t, "ExtDot", extLists(), mark, func(list []impl.Ext) {
 			impl.ExtDot(list, other)
@@ -248,6 +295,54 @@ func TestAnswersAreNewMemory(t *testing.T) {
 	answersNewMemory(t, "MerklePath", textLists(), "behind", "mark", func(leaves []string) ([]string, int) { return impl.MerklePath(leaves, 0) })
 }
 
+// scriptsLeft are the calls that answer a source, of one with a script or of a list that becomes one.
+func scriptsLeft() map[string]func(script []impl.Ext) impl.Source {
+	source := func(script []impl.Ext, used int) impl.Source {
+		return impl.Source{Script: script, State: hashed("rules"), At: used}
+	}
+	return map[string]func(script []impl.Ext) impl.Source{
+		"NewScript":            func(list []impl.Ext) impl.Source { s, _ := impl.NewScript("label", list); return s },
+		"AbsorbText":           func(list []impl.Ext) impl.Source { s, _ := impl.AbsorbText(source(list, 3), "text"); return s },
+		"AbsorbExts":           func(list []impl.Ext) impl.Source { s, _ := impl.AbsorbExts(source(list, 3), list); return s },
+		"TakeOne":              func(list []impl.Ext) impl.Source { s, _, _ := impl.TakeOne(source(list, 3)); return s },
+		"TakeSome":             func(list []impl.Ext) impl.Source { s, _, _ := impl.TakeSome(source(list, 3), 5); return s },
+		"TakeSome of none":     func(list []impl.Ext) impl.Source { s, _, _ := impl.TakeSome(source(list, 3), 0); return s },
+		"TakePlaces":           func(list []impl.Ext) impl.Source { s, _, _ := impl.TakePlaces(source(list, 3), 5, 9); return s },
+		"TakeOne of too many":  func(list []impl.Ext) impl.Source { s, _, _ := impl.TakeOne(source(list, allDraws)); return s },
+		"TakeSome of too many": func(list []impl.Ext) impl.Source { s, _, _ := impl.TakeSome(source(list, allDraws), 5); return s },
+		"TakePlaces of too many": func(list []impl.Ext) impl.Source {
+			s, _, _ := impl.TakePlaces(source(list, allDraws), 5, 9)
+			return s
+		},
+	}
+}
+
+func TestSourcesAreNewMemory(t *testing.T) {
+	mark := impl.Ext{A: -5, B: -5}
+	for name, does := range scriptsLeft() {
+		answersNewMemory(t, name, scripts(), mark, mark, func(list []impl.Ext) ([]impl.Ext, int) { return does(list).Script, impl.OK })
+	}
+	answersNewMemory(t, "TakeSome's list", scripts(), mark, mark, func(list []impl.Ext) ([]impl.Ext, int) {
+		_, drawn, code := impl.TakeSome(impl.Source{Script: list, State: hashed("rules")}, len(list)%100)
+		return drawn, code
+	})
+}
+
+// TestDrawnListsAreApart writes into what was drawn, and behind its end: the script is to stay.
+func TestDrawnListsAreApart(t *testing.T) {
+	for _, n := range []int{1, 3, 64} {
+		script := mixedExts(n)
+		after, drawn := someDraws(t, impl.Source{Script: script, State: hashed("rules")}, n)
+		drawn = drawn[:cap(drawn)]
+		for i := range drawn {
+			drawn[i] = impl.Ext{A: -5}
+		}
+		if !slices.Equal(after.Script, script) {
+			t.Error("what was drawn shares memory with the script of", n)
+		}
+	}
+}
+
 func emptyIsNil[T, U any](t *testing.T, name string, does func(list []T) ([]U, int)) {
 	t.Helper()
 	one, codeOne := does(nil)
@@ -261,6 +356,11 @@ func TestEmptyListIsNil(t *testing.T) {
 	emptyIsNil(t, "BatchInverse", impl.BatchInverse)
 	emptyIsNil(t, "ReadExts", impl.ReadExts)
 	emptyIsNil(t, "ExtBytes", impl.ExtBytes)
+	for name, does := range scriptsLeft() {
+		if one, two := does(nil), does([]impl.Ext{}); !sameSource(one, two) || len(one.Script) != 0 {
+			t.Error(name, one, two)
+		}
+	}
 	for _, n := range []int{0, 1, 2} {
 		if one, two := treeAnswers(nil, n, 0), treeAnswers([]string{}, n, 0); one != two {
 			t.Error("trees of", n, one, two)
