@@ -174,6 +174,37 @@ func sourceCalls() []call {
 	return calls
 }
 
+// tableLists are tables and points, right ones and others.
+func tableLists() [][]impl.Ext {
+	lists := append(extLists(), extsWith(64, 63, impl.Ext{A: -1}), extsWith(6, 5, impl.Ext{B: prime}))
+	for _, n := range []int{1, 2, 3, 4, 6, 7, 8, 9, 16, 32, 64, 65, 128} {
+		lists = append(lists, mixedExts(n))
+	}
+	return lists
+}
+
+// tableAnswers asks everything about a list as a table, as a point or as values of a line.
+func tableAnswers(list []impl.Ext, r impl.Ext) string {
+	return told(impl.TableOK(list)) + told(impl.EqTable(list)) + told(impl.FoldTable(list, r)) +
+		told(impl.CoefsOf(list)) + told(impl.TableOf(list)) + told(impl.LineAt(list, r))
+}
+
+func tableCalls() []call {
+	var calls []call
+	for i, a := range tableLists() {
+		for _, r := range []impl.Ext{ext0, ext1, extX, {A: 3}, {A: -1}, {B: prime}, {A: math.MinInt, B: math.MaxInt}} {
+			calls = append(calls, call{fmt.Sprint("tables ", i, r), func() string { return tableAnswers(a, r) }})
+		}
+		for j, b := range tableLists() {
+			calls = append(calls,
+				call{fmt.Sprint("EqAt ", i, j), func() string { return told(impl.EqAt(a, b)) }},
+				call{fmt.Sprint("TableAt ", i, j), func() string { return told(impl.TableAt(a, b)) }},
+			)
+		}
+	}
+	return calls
+}
+
 func elementCalls() []call {
 	var calls []call
 	list := append(someExts(0), wrongExts()...)
@@ -207,7 +238,7 @@ func answerOf(t *testing.T, c call) (answer string) {
 }
 
 func TestAlikeArgumentsHaveAlikeAnswers(t *testing.T) {
-	calls := slices.Concat(textCalls(), numberCalls(), listCalls(), treeCalls(), sourceCalls(), elementCalls())
+	calls := slices.Concat(textCalls(), numberCalls(), listCalls(), treeCalls(), sourceCalls(), tableCalls(), elementCalls())
 	first := make([]string, len(calls))
 	for i, c := range calls {
 		first[i] = answerOf(t, c)
@@ -253,6 +284,15 @@ func TestNoCallChangesAnArgument(t *testing.T) {
 			sourceAnswers(impl.Source{Script: list, State: hashed("rules"), At: used}, 5, 9)
 		})
 	}
+	keepsItsList(t, "a table's call", tableLists(), mark, func(list []impl.Ext) { tableAnswers(list, extX) })
+	for _, other := range tableLists() {
+		keepsItsList(t, "EqAt, TableAt", tableLists(), mark, func(list []impl.Ext) {
+			impl.EqAt(list, other)
+			impl.EqAt(other, list)
+			impl.TableAt(list, other)
+			impl.TableAt(other, list)
+		})
+	}
 	for _, other := range extLists() {
 		keepsItsList(t, "ExtDot", extLists(), mark, func(list []impl.Ext) {
 			impl.ExtDot(list, other)
@@ -292,6 +332,12 @@ func TestAnswersAreNewMemory(t *testing.T) {
 	answersNewMemory(t, "BatchInverse", batchLists(), 11, -5, impl.BatchInverse)
 	answersNewMemory(t, "ReadExts", byteLists(), 11, mark, impl.ReadExts)
 	answersNewMemory(t, "ExtBytes", extLists(), mark, 99, impl.ExtBytes)
+	answersNewMemory(t, "EqTable", tableLists(), mark, mark, impl.EqTable)
+	answersNewMemory(t, "CoefsOf", tableLists(), mark, mark, impl.CoefsOf)
+	answersNewMemory(t, "TableOf", tableLists(), mark, mark, impl.TableOf)
+	for _, r := range []impl.Ext{ext0, ext1, extX} {
+		answersNewMemory(t, "FoldTable", tableLists(), mark, mark, func(table []impl.Ext) ([]impl.Ext, int) { return impl.FoldTable(table, r) })
+	}
 	answersNewMemory(t, "MerklePath", textLists(), "behind", "mark", func(leaves []string) ([]string, int) { return impl.MerklePath(leaves, 0) })
 }
 
@@ -356,6 +402,17 @@ func TestEmptyListIsNil(t *testing.T) {
 	emptyIsNil(t, "BatchInverse", impl.BatchInverse)
 	emptyIsNil(t, "ReadExts", impl.ReadExts)
 	emptyIsNil(t, "ExtBytes", impl.ExtBytes)
+	if one, two := tableAnswers(nil, extX), tableAnswers([]impl.Ext{}, extX); one != two {
+		t.Error("tables", one, two)
+	}
+	for _, list := range [][]impl.Ext{nil, {}, {ext1}, mixedExts(2)} {
+		one := told(impl.EqAt(nil, list)) + told(impl.EqAt(list, nil)) + told(impl.TableAt(nil, list)) + told(impl.TableAt(list, nil))
+		none := []impl.Ext{}
+		two := told(impl.EqAt(none, list)) + told(impl.EqAt(list, none)) + told(impl.TableAt(none, list)) + told(impl.TableAt(list, none))
+		if one != two {
+			t.Error("tables and points", one, two)
+		}
+	}
 	for name, does := range scriptsLeft() {
 		if one, two := does(nil), does([]impl.Ext{}); !sameSource(one, two) || len(one.Script) != 0 {
 			t.Error(name, one, two)
