@@ -205,6 +205,40 @@ func tableCalls() []call {
 	return calls
 }
 
+// wordLists are words and coefficients, right ones and others.
+func wordLists() [][]impl.Ext {
+	lists := append(tableLists(), extsWith(512, 511, impl.Ext{A: -1}))
+	for _, n := range []int{256, 511, 512, 513, 1024} {
+		lists = append(lists, mixedExts(n))
+	}
+	return lists
+}
+
+// wordAnswers asks everything about a list as a word or as coefficients.
+func wordAnswers(list []impl.Ext, rate int, r impl.Ext) string {
+	return told(impl.Ntt(list)) + told(impl.InverseNtt(list)) + told(impl.EncodeWord(list, rate)) +
+		told(impl.IsWord(list, rate)) + told(impl.FoldWord(list, r)) + told(impl.PolyAt(list, r))
+}
+
+func wordCalls() []call {
+	var calls []call
+	for _, r := range []impl.Ext{ext0, ext1, extX, {A: -1}, {A: math.MinInt, B: math.MaxInt}} {
+		for i, list := range wordLists() {
+			for _, rate := range []int{0, 1, 9, 10, -1, math.MaxInt, math.MinInt} {
+				calls = append(calls, call{fmt.Sprint("words ", i, rate, r), func() string { return wordAnswers(list, rate, r) }})
+			}
+		}
+		for _, n := range []int{0, 1, 2, 3, 8, 512, 1024, -1, math.MaxInt, math.MinInt} {
+			for _, i := range []int{0, 1, 3, 4, 255, 256, -1, math.MaxInt, math.MinInt} {
+				calls = append(calls, call{fmt.Sprint("FoldPair ", n, i, r), func() string {
+					return told(impl.FoldPair(n, i, extX, ext1, r)) + told(impl.FoldPair(n, i, r, ext1, extX)) + told(impl.FoldPair(n, i, ext1, r, extX))
+				}})
+			}
+		}
+	}
+	return calls
+}
+
 func elementCalls() []call {
 	var calls []call
 	list := append(someExts(0), wrongExts()...)
@@ -238,7 +272,7 @@ func answerOf(t *testing.T, c call) (answer string) {
 }
 
 func TestAlikeArgumentsHaveAlikeAnswers(t *testing.T) {
-	calls := slices.Concat(textCalls(), numberCalls(), listCalls(), treeCalls(), sourceCalls(), tableCalls(), elementCalls())
+	calls := slices.Concat(textCalls(), numberCalls(), listCalls(), treeCalls(), sourceCalls(), tableCalls(), wordCalls(), elementCalls())
 	first := make([]string, len(calls))
 	for i, c := range calls {
 		first[i] = answerOf(t, c)
@@ -285,6 +319,9 @@ func TestNoCallChangesAnArgument(t *testing.T) {
 		})
 	}
 	keepsItsList(t, "a table's call", tableLists(), mark, func(list []impl.Ext) { tableAnswers(list, extX) })
+	for _, rate := range []int{0, 1, 3, 10} {
+		keepsItsList(t, "a word's call", wordLists(), mark, func(list []impl.Ext) { wordAnswers(list, rate, extX) })
+	}
 	for _, other := range tableLists() {
 		keepsItsList(t, "EqAt, TableAt", tableLists(), mark, func(list []impl.Ext) {
 			impl.EqAt(list, other)
@@ -337,6 +374,14 @@ func TestAnswersAreNewMemory(t *testing.T) {
 	answersNewMemory(t, "TableOf", tableLists(), mark, mark, impl.TableOf)
 	for _, r := range []impl.Ext{ext0, ext1, extX} {
 		answersNewMemory(t, "FoldTable", tableLists(), mark, mark, func(table []impl.Ext) ([]impl.Ext, int) { return impl.FoldTable(table, r) })
+	}
+	answersNewMemory(t, "Ntt", wordLists(), mark, mark, impl.Ntt)
+	answersNewMemory(t, "InverseNtt", wordLists(), mark, mark, impl.InverseNtt)
+	for _, rate := range []int{0, 1, 3} {
+		answersNewMemory(t, "EncodeWord", wordLists(), mark, mark, func(coefs []impl.Ext) ([]impl.Ext, int) { return impl.EncodeWord(coefs, rate) })
+	}
+	for _, r := range []impl.Ext{ext0, ext1, extX} {
+		answersNewMemory(t, "FoldWord", wordLists(), mark, mark, func(word []impl.Ext) ([]impl.Ext, int) { return impl.FoldWord(word, r) })
 	}
 	answersNewMemory(t, "MerklePath", textLists(), "behind", "mark", func(leaves []string) ([]string, int) { return impl.MerklePath(leaves, 0) })
 }
@@ -404,6 +449,9 @@ func TestEmptyListIsNil(t *testing.T) {
 	emptyIsNil(t, "ExtBytes", impl.ExtBytes)
 	if one, two := tableAnswers(nil, extX), tableAnswers([]impl.Ext{}, extX); one != two {
 		t.Error("tables", one, two)
+	}
+	if one, two := wordAnswers(nil, 1, extX), wordAnswers([]impl.Ext{}, 1, extX); one != two {
+		t.Error("words", one, two)
 	}
 	for _, list := range [][]impl.Ext{nil, {}, {ext1}, mixedExts(2)} {
 		one := told(impl.EqAt(nil, list)) + told(impl.EqAt(list, nil)) + told(impl.TableAt(nil, list)) + told(impl.TableAt(list, nil))
