@@ -123,6 +123,7 @@ func TestFoldPairFaults(t *testing.T) {
 	}
 }
 
+// A list of other lengths is told ahead of an r that is not right, one element alone behind it.
 func TestFoldWordFaults(t *testing.T) {
 	for _, a := range someExts(2) {
 		if got, code := impl.FoldWord([]impl.Ext{a}, extX); len(got) != 0 || code != impl.ErrSize {
@@ -130,12 +131,12 @@ func TestFoldWordFaults(t *testing.T) {
 		}
 	}
 	for _, bad := range wrongExts() {
-		for n := 2; n <= maxWord; n *= 2 {
+		for n := 1; n <= maxWord; n *= 2 {
 			if got, code := impl.FoldWord(mixedExts(n), bad); len(got) != 0 || code != impl.ErrBad {
 				t.Error(n, "folded by", bad, len(got), code)
 			}
 		}
-		for _, n := range append([]int{1}, noWords...) {
+		for _, n := range noWords {
 			if got, code := impl.FoldWord(mixedExts(n), bad); len(got) != 0 || code != impl.ErrSize {
 				t.Error(n, "folded by", bad, len(got), code)
 			}
