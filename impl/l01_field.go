@@ -74,6 +74,15 @@ func FieldOK(a int) bool {
 	return a >= 0 && a < Prime
 }
 
+func numbersOK(list []int) bool {
+	for _, a := range list {
+		if !FieldOK(a) {
+			return false
+		}
+	}
+	return true
+}
+
 // Add is a + b modulo Prime.
 func Add(a, b int) (int, int) {
 	if !FieldOK(a) || !FieldOK(b) {
