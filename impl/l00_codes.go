@@ -1,10 +1,15 @@
 package impl
 
+import "strconv"
+
 const (
 	MaxText = 65536
 	MaxList = 4096
 	MaxName = 40
 )
+
+// numberBound is 1 and 18 noughts: a number's text has at most 18 digits.
+const numberBound = 1_000_000_000_000_000_000
 
 const (
 	OK = iota
@@ -56,6 +61,15 @@ func isNameLetter(c byte) bool {
 
 func isDigit(c byte) bool {
 	return c >= '0' && c <= '9'
+}
+
+// numberFrom reads a number's text: of digits, signs and noughts ahead just those that are told again.
+func numberFrom(text string) (int, bool) {
+	n, err := strconv.Atoi(text)
+	if err != nil || strconv.Itoa(n) != text || n <= -numberBound || n >= numberBound {
+		return 0, false
+	}
+	return n, true
 }
 
 // CodeWord is the word of a code, empty for any other number.
