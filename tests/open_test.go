@@ -19,8 +19,8 @@ func someSettings() []impl.Setting {
 	}
 }
 
-// openSources are sponges and scripts, new ones, used ones, and such as have just 100 draws left.
-func openSources() []impl.Source {
+// sourcesWithLeft are sponges and scripts, new ones, used ones, and such as have just so many draws left.
+func sourcesWithLeft(left int) []impl.Source {
 	state := hashed("openings")
 	list := []impl.Source{
 		{State: state},
@@ -34,13 +34,15 @@ func openSources() []impl.Source {
 	}
 	for _, script := range [][]impl.Ext{nil, mixedExts(15)} {
 		list = append(list,
-			impl.Source{State: state, Script: script, At: allDraws - leftForOpening},
-			impl.Source{State: state, Script: script, Count: allDraws - leftForOpening},
-			impl.Source{State: state, Script: script, At: allDraws - leftForOpening, Count: allDraws - leftForOpening},
+			impl.Source{State: state, Script: script, At: allDraws - left},
+			impl.Source{State: state, Script: script, Count: allDraws - left},
+			impl.Source{State: state, Script: script, At: allDraws - left, Count: allDraws - left},
 		)
 	}
 	return list
 }
+
+func openSources() []impl.Source { return sourcesWithLeft(leftForOpening) }
 
 // plainLeaves are each two elements that stand half a word apart.
 func plainLeaves(word []impl.Ext) []string {
