@@ -37,8 +37,14 @@ func TestProofsOfTheLastNonceAndOfNone(t *testing.T) {
 		for _, grind := range []int{1, 12} {
 			a := fullAsked(1, 2, impl.Setting{Rate: 1, Queries: 2, Grind: grind}, impl.Source{Script: script})
 			last, none := provedBehind(t, a, true), provedBehind(t, a, false)
-			if p := proved(t, last); p.Open.Nonce != 65535 || !sameProof(p, plainProof(t, last)) || plainRefusal(t, last, p) != "" {
+			p := proved(t, last)
+			if p.Open.Nonce != 65535 || !sameProof(p, plainProof(t, last)) {
 				t.Error(grind, "bits of the last nonce", p.Open.Nonce)
+			}
+			shownProof{last, p}.asks(t, accepted)
+			for _, nonce := range []int{0, 1, 65534} {
+				p.Open.Nonce = nonce
+				shownProof{last, p}.asks(t, refusal{"opening", impl.ErrGrind}, "nonce", nonce)
 			}
 			none.asksCode(t, impl.ErrGrind, "no nonce")
 			started(t, none)

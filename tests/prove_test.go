@@ -1,7 +1,6 @@
 package tests
 
 import (
-	"fmt"
 	"slices"
 	"testing"
 
@@ -64,36 +63,6 @@ func (a proveAsked) asksCode(t *testing.T, want int, what ...any) {
 	if p, code := impl.Prove(a.s, a.set, a.publics, a.privates, a.source); code != want || !sameProof(p, impl.Proof{}) {
 		t.Error("Prove", what, "has", code, "is to have", want)
 	}
-}
-
-// plainRefusal is what chapter 14 would refuse a proof for, nothing if it has no reason to.
-func plainRefusal(t *testing.T, a proveAsked, p impl.Proof) string {
-	t.Helper()
-	s, drawn := someDraws(t, taken(t, a.source, a.plainText(), p.Root), a.s.Rows)
-	rx, last, s, code := impl.SumVerify(impl.SuGate, ext0, p.Gates, a.s.Rows, s)
-	if code != impl.OK {
-		return fmt.Sprint("gates ", code)
-	}
-	if mustExt(impl.Combine(impl.SuGate, []impl.Ext{mustExt(impl.EqAt(drawn, rx)), p.VA, p.VB, p.VC})) != last {
-		return "gates' last claim"
-	}
-	s, r := someDraws(t, takenExts(t, s, p.VA, p.VB, p.VC), 3)
-	claim := mustExt(impl.ExtDot(r, []impl.Ext{p.VA, p.VB, p.VC}))
-	ry, last, s, code := impl.SumVerify(impl.SuProduct, claim, p.Wires, a.s.Cols, s)
-	if code != impl.OK {
-		return fmt.Sprint("wires ", code)
-	}
-	vars := a.s.Cols - 1
-	point, side := ry[:vars], ry[vars]
-	public := tableAt(t, elements(plainVector(a.s.Cols, a.publics, nil)[:1<<vars]...), point)
-	value := extAdd(extMul(public, extSub(ext1, side)), extMul(p.VW, side))
-	if extMul(tableAt(t, plainBound(a.s, rx, r...), ry), value) != last {
-		return "wires' last claim"
-	}
-	if _, code := impl.CheckOpening(p.Root, vars, point, p.VW, a.set, p.Open, takenExts(t, s, p.VW)); code != impl.OK {
-		return fmt.Sprint("opening ", code)
-	}
-	return ""
 }
 
 // spreadBy is a system of A and B that the vector satisfies; C's entries stand in columns all over it.
@@ -192,28 +161,20 @@ func TestProofsAreOfTheirLengths(t *testing.T) {
 	})
 }
 
-// The theorem of completeness, as far as the calls of chapters 9 and 10 refuse what is none.
+// The theorem of completeness: Verify and the calls of chapters 9 and 10 have nothing to refuse.
 func TestWhatIsProvedHoldsWhoeverDraws(t *testing.T) {
-	eachAsked(func(a proveAsked) {
-		if why := plainRefusal(t, a, proved(t, a)); why != "" {
-			t.Fatal(a.s.Rows, a.s.Cols, a.set, a.publics, a.privates, a.source.At, a.source.Count, len(a.source.Script), "is refused:", why)
-		}
-	})
+	eachAsked(func(a proveAsked) { shownProof{a, proved(t, a)}.asks(t, accepted) })
 	a := fullAsked(2, 3, impl.Setting{}, impl.Source{})
 	for rate := 1; rate <= impl.MaxRate; rate++ {
 		for queries := 1; queries <= impl.MaxQueries; queries++ {
 			for j, source := range proofSources() {
 				a.set, a.source = impl.Setting{Rate: rate, Queries: queries, Grind: (rate + queries + j) % 5}, source
-				if why := plainRefusal(t, a, proved(t, a)); why != "" {
-					t.Fatal(a.set, "source", j, why)
-				}
+				shownProof{a, proved(t, a)}.asks(t, accepted, "source", j)
 			}
 		}
 	}
 	a.set = impl.Setting{Rate: 1, Queries: 1, Grind: impl.MaxGrind}
-	if why := plainRefusal(t, a, proved(t, a)); why != "" {
-		t.Error(a.set, why)
-	}
+	shownProof{a, proved(t, a)}.asks(t, accepted)
 }
 
 // A proof is one of what it was made of alone.
@@ -228,7 +189,7 @@ func TestProofsAreOfWhatTheyProve(t *testing.T) {
 	} {
 		b := a
 		does(&b)
-		if plainRefusal(t, b, p) == "" {
+		if plainRefusal(t, b, p) == accepted {
 			t.Error("case", i, "takes another one's proof")
 		}
 	}
@@ -367,8 +328,9 @@ func asksCircuit(t *testing.T, r run, set impl.Setting, source impl.Source) {
 	if code != impl.OK || !sameProof(p, plainProof(t, a)) || !sameProof(p, proved(t, a)) {
 		t.Fatal("ProveCircuit", r, set, code)
 	}
-	if why := plainRefusal(t, a, p); why != "" {
-		t.Fatal("ProveCircuit", r, set, "is refused:", why)
+	shownProof{a, p}.asks(t, accepted, r)
+	if ok, code := impl.VerifyCircuit(r.c, set, r.publics, p, source); !ok || code != impl.OK {
+		t.Fatal("VerifyCircuit", r, set, ok, code)
 	}
 }
 
