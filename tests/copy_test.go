@@ -13,13 +13,19 @@ import (
 	"testing"
 )
 
-// Some answers cannot be had under the true hash. A test of them asks a copy of the program whose hash is another one.
+// Some answers cannot be had under the true hash, or not be held against what the program does inside. A test of them asks a copy of the program of which some functions are others.
 
-// asksACopy runs one test on the copy; hash is the file with its Keccak256, which may call the true one as strongKeccak256.
+// asksACopy runs one test on a copy of another hash: the file with its Keccak256, which may call the true one as strongKeccak256.
 func asksACopy(t *testing.T, hash, test string) {
 	t.Helper()
+	asksACopyWith(t, map[string]string{"Keccak256": "strongKeccak256"}, hash, test)
+}
+
+// asksACopyWith runs one test on a copy with another file, whose functions stand in the places of those that are renamed.
+func asksACopyWith(t *testing.T, renamed map[string]string, other, test string) {
+	t.Helper()
 	command := exec.Command("go", "test", "-vet=off", "-count=1", "-v", "-run", "^"+test+"$", "./tests")
-	command.Dir = copyWithHash(t, hash)
+	command.Dir = copyWith(t, renamed, other)
 	said, err := command.CombinedOutput()
 	if err != nil {
 		t.Fatal(err, string(said))
@@ -29,8 +35,8 @@ func asksACopy(t *testing.T, hash, test string) {
 	}
 }
 
-// copyWithHash lays out the program and its tests with another hash in the true one's place.
-func copyWithHash(t *testing.T, hash string) string {
+// copyWith lays out the program and its tests with another file beside it.
+func copyWith(t *testing.T, renamed map[string]string, other string) string {
 	t.Helper()
 	dir := t.TempDir()
 	tests, err := filepath.Glob("*_test.go")
@@ -43,11 +49,11 @@ func copyWithHash(t *testing.T, hash string) string {
 			t.Fatal(err)
 		}
 		if strings.HasPrefix(file, "../impl") {
-			text = withoutTrueHash(t, text)
+			text = withRenamed(t, renamed, text)
 		}
 		layFile(t, filepath.Join(dir, "tests", file), text)
 	}
-	layFile(t, filepath.Join(dir, "impl", "other_hash.go"), []byte(hash))
+	layFile(t, filepath.Join(dir, "impl", "other.go"), []byte(other))
 	return dir
 }
 
@@ -61,7 +67,8 @@ func layFile(t *testing.T, place string, text []byte) {
 	}
 }
 
-func withoutTrueHash(t *testing.T, text []byte) []byte {
+// withRenamed is a file with other names of functions where they are declared; whoever calls them calls the other file's.
+func withRenamed(t *testing.T, renamed map[string]string, text []byte) []byte {
 	t.Helper()
 	files := token.NewFileSet()
 	file, err := parser.ParseFile(files, "", text, parser.ParseComments)
@@ -69,8 +76,8 @@ func withoutTrueHash(t *testing.T, text []byte) []byte {
 		t.Fatal(err)
 	}
 	for _, d := range file.Decls {
-		if f, ok := d.(*ast.FuncDecl); ok && f.Name.Name == "Keccak256" {
-			f.Name.Name = "strongKeccak256"
+		if f, ok := d.(*ast.FuncDecl); ok && renamed[f.Name.Name] != "" {
+			f.Name.Name = renamed[f.Name.Name]
 		}
 	}
 	var laid strings.Builder

@@ -471,8 +471,8 @@ func TestRowsOfGreatNumbers(t *testing.T) {
 	asksFailed(t, s, z, []int{1})
 }
 
-// plainDigest is the hash of the bytes that chapter 11 tells.
-func plainDigest(s impl.System) string {
+// digestBytes are those that chapter 11 tells.
+func digestBytes(s impl.System) []byte {
 	b := append([]byte("system"), byte(s.Rows), byte(s.Cols), byte(s.Publics))
 	for _, list := range [][]impl.Entry{s.A, s.B, s.C} {
 		b = append(b, fourBytes(len(list))...)
@@ -480,8 +480,10 @@ func plainDigest(s impl.System) string {
 			b = append(append(b, byte(e.Row), byte(e.Col)), fourBytes(e.Value)...)
 		}
 	}
-	return impl.Keccak256(b)
+	return b
 }
+
+func plainDigest(s impl.System) string { return impl.Keccak256(digestBytes(s)) }
 
 func TestSystemDigest(t *testing.T) {
 	eachSize(func(rows, cols int) {
