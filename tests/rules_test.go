@@ -272,7 +272,7 @@ func answerOf(t *testing.T, c call) (answer string) {
 }
 
 func TestAlikeArgumentsHaveAlikeAnswers(t *testing.T) {
-	calls := slices.Concat(textCalls(), numberCalls(), listCalls(), treeCalls(), sourceCalls(), tableCalls(), wordCalls(), sumCalls(), openCalls(t), systemCalls(), circuitCalls(), proofCalls(), shownCalls(t), codecCalls(t), paramsCalls(), elementCalls())
+	calls := slices.Concat(textCalls(), numberCalls(), listCalls(), treeCalls(), sourceCalls(), tableCalls(), wordCalls(), sumCalls(), openCalls(t), systemCalls(), circuitCalls(), proofCalls(), shownCalls(t), codecCalls(t), paramsCalls(), consoleCalls(t), elementCalls())
 	first := make([]string, len(calls))
 	for i, c := range calls {
 		first[i] = answerOf(t, c)
