@@ -102,28 +102,54 @@ func TestTextsAtMaxText(t *testing.T) {
 	}
 }
 
-func TestListsAtMaxList(t *testing.T) {
-	most, more := numbersOf(impl.MaxList, 3), numbersOf(longList, 3)
-	ones, zeros := slices.Repeat([]int{1}, longList), make([]int, longList)
+// A line has any number of numbers, up to as many as a text has room for.
+func TestAnyNumberOfNumbers(t *testing.T) {
 	for _, word := range []string{"publics", "inputs"} {
-		for _, list := range [][]int{zeros[1:], ones[1:]} {
-			asksConsole(t, textOfLines(textOf(word, list...)), "ok\n")
+		for _, n := range []int{0, 1, 16, impl.MaxList - 1, impl.MaxList, longList, longList + 1, 2 * impl.MaxList, 16000} {
+			for _, number := range []string{" 0", " 1"} {
+				line := word + strings.Repeat(number, n)
+				asksConsole(t, line, "ok\n")
+				asksConsole(t, textOfLines(line, word+" 1"), "ok\nok\n")
+			}
 		}
-		for _, list := range [][]int{zeros, ones, slices.Repeat(ones, 2)} {
-			asksConsole(t, textOfLines(textOf(word, list...)), "error many\n")
+		for _, n := range []int{impl.MaxList, longList} {
+			asksConsole(t, textOf(word, numbersOf(n, 3)...), "ok\n")
 		}
-		asksConsole(t, textOf(word, most...), "ok\n")
-		asksConsole(t, textOf(word, more...), "error many\n")
-		asksNoConsole(t, textOf(word, more...)+strings.Repeat(" ", impl.MaxText), impl.ErrLong)
+		most := word + strings.Repeat(" 1", (impl.MaxText-len(word)-1)/2) + "\n"
+		far := strings.Repeat(" ", impl.MaxText-len(most))
+		asksConsole(t, most+far, "ok\n")
+		asksNoConsole(t, most+far+" ", impl.ErrLong)
+		asksNoConsole(t, textOf(word, numbersOf(longList, 3)...)+strings.Repeat(" ", impl.MaxText), impl.ErrLong)
 	}
-	other := map[string]string{"publics": "inputs", "inputs": "publics"}
-	for word, behind := range other {
-		gate := strings.TrimSuffix(word, "s")
-		asksDialog(t, gate, "gate 0", word+" 8", "ok", textOf(word, ones...), "error many", "run", "values 8", "prove", "proof 228",
-			textOf(behind, ones...), "error many", "run", "values 8", "verify", "accepted",
-			textOf(word, ones[1:]...), "ok", "run", "error size", "prove", "error size", word, "ok", "run", "error size", word+" 9", "ok", "run", "values 9")
+}
+
+// More numbers than the calls take are told by these alone, and laid aside for others again.
+func TestMoreNumbersThanCallsTake(t *testing.T) {
+	most, more := slices.Repeat([]int{1}, impl.MaxList), slices.Repeat([]int{1}, longList)
+	// What inputs there are is nothing to a verifier.
+	for _, c := range []struct{ gate, word, other, most, more, moreOfOther string }{
+		{"public", "publics", "inputs", "error public", "error long", "accepted"},
+		{"input", "inputs", "publics", "accepted", "accepted", "error long"},
+	} {
+		asksDialog(t, c.gate, "gate 0", c.word+" 8", "ok", "run", "values 8", "prove", "proof 228", "verify", "accepted",
+			textOf(c.word, most...), "ok", "run", "error size", "prove", "error size", "verify", c.most,
+			textOf(c.word, more...), "ok", "run", "error long", "prove", "error long", "verify", c.more, c.word+" x", "error form", "run", "error long",
+			c.word+" 8", "ok", "run", "values 8", "verify", "accepted",
+			textOf(c.other, more...), "ok", "run", "error long", "prove", "error long", "verify", c.moreOfOther,
+			c.other, "ok", "run", "values 8", "verify", "accepted", c.word+" 9", "ok", "run", "values 9")
+		asksDialog(t, textOf(c.word, most...), "ok", "run", "error circuit", "prove", "error circuit", "verify", "error circuit",
+			textOf(c.word, more...), "ok", "run", "error long", "prove", "error long", "verify", "error circuit")
 	}
+	asksDialog(t, "input", "gate 0", "public", "gate 1", textOf("publics", more...), "ok", "run", "error long", "prove", "error long", "verify", "error long",
+		"publics", "ok", textOf("inputs", more...), "ok", "run", "error long", "prove", "error long", "verify", "error public", "publics 1", "ok", "verify", "error form")
 	asksDialog(t, "input", "gate 0", "publics", "ok", "inputs", "ok", "run", "error size", "inputs 1", "ok", "run", "values 1", "publics", "ok", "run", "values 1")
+}
+
+func TestManyNumbersInEveryOrder(t *testing.T) {
+	zeros := make([]int, longList)
+	lines := []string{textOf("publics", zeros...), textOf("inputs", zeros...), "publics 49", "inputs 7", "run", "prove", "verify"}
+	eachTextOf(lines, 3, "", func(text string) { asksLikeCalls(t, text) })
+	eachTextOf(lines, 3, textOfLines(append(rootLines, "publics 49", "inputs 7", "prove")...), func(text string) { asksLikeCalls(t, text) })
 }
 
 // Fifteen gates, and seven of them public, are as many as there may be; what is one too many changes nothing.

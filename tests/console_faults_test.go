@@ -161,6 +161,7 @@ func TestFormOfLinesOfManyNumbers(t *testing.T) {
 
 // With two things wrong at once the form is told first, then the codes of the call in its order.
 func TestOrderOfWhatIsTold(t *testing.T) {
+	long := make([]int, longList)
 	for _, c := range []struct{ text, want string }{
 		{"select 17 9 x", "form"}, {"select 17 9 99 1", "form"}, {"select 17 9", "form"}, {"select 16 4 0", "range"}, {"select 17 1 0", "range"}, {"select 16 1 13", "range"}, {"select 16 0 0", "range"}, {"select 2130706432 2130706432 2130706432", "range"},
 		{"select 16 1 0", "secure"}, {"select 16 3 9", "secure"}, {"spoil x", "form"}, {"spoil 9999 9999", "form"}, {"spoil 2130706433", "form"}, {"spoil 2130706432", "range"},
@@ -169,10 +170,12 @@ func TestOrderOfWhatIsTold(t *testing.T) {
 		{"input\npublics 1\nverify", "public"}, {"input\nverify", "form"}, {"public\nverify", "public"}, {"public\npublics 1\nverify", "form"},
 		{"const 2\nbit 0\nrun", "unsatisfied"}, {"const 2\nbit 0\ninputs 1\nrun", "size"}, {"const 2\nbit 0\npublics 1\nprove", "size"}, {"const 2\nbit 0\nprove", "unsatisfied"}, {"const 2\nbit 0\nverify", "form"}, {"const 2\nbit 0\npublics 1\nverify", "public"},
 		{"input\npublic\ninputs 1 1\npublics\nrun", "size"}, {provedText + "publics 1\nspoil 39\nverify", "public"}, {provedText + "select 1 1 0\nspoil 39\nverify", "form"}, {provedText + "select 1 1 0\npublics 1\nverify", "public"},
+		{textOf("publics", long...) + "\nrun", "long"}, {textOf("inputs", long...) + "\nprove", "long"}, {textOf("publics", long...) + "\nverify", "circuit"}, {textOf("inputs", long...) + " x", "form"},
+		{"public\n" + textOf("publics", long...) + "\nverify", "long"}, {"public\n" + textOf("inputs", long...) + "\nverify", "public"}, {"const 2\nbit 0\n" + textOf("inputs", long...) + "\nprove", "long"}, {provedText + textOf("publics", long...) + "\nspoil 39\nverify", "long"},
 		{provedText + "spoil 228", "range"}, {provedText + "spoil 228 1", "form"}, {provedText + "spoil 39\ninputs\nprove", "size"},
 	} {
 		if got := lastAnswer(t, c.text); got != "error "+c.want {
-			t.Errorf("%q says %q, is to say error %s", c.text, got, c.want)
+			t.Errorf("%.400q says %q, is to say error %s", c.text, got, c.want)
 		}
 	}
 }
@@ -185,7 +188,7 @@ func TestErrorsChangeNothing(t *testing.T) {
 		t.Fatal(answers)
 	}
 	wrong := []string{
-		"bit 14", "add 9 9", "bit 15", "publics x", "publics 49 -1", "inputs 2130706433", textOf("publics", make([]int, longList)...), textOf("inputs", make([]int, longList)...),
+		"bit 14", "add 9 9", "bit 15", "publics x", "publics 49 -1", "inputs 2130706433", textOf("publics", make([]int, longList)...) + " x", textOf("inputs", make([]int, longList)...) + " -1",
 		"select 17 1 0", "select 16 1 0", "select 1 4 1", "select 1 2 13", "select 1 2", "spoil 9999", "spoil 39 39", "spoil", "go", "prove now", "\x00", "\t",
 	}
 	for _, bad := range wrong {

@@ -119,14 +119,6 @@ func (d *plainDesk) selects(bits, rate, grind int) (string, int) {
 	return textOf("queries", set.Queries), code
 }
 
-func takes(list *[]int, numbers []int) (string, int) {
-	if len(numbers) > 4096 {
-		return "", impl.ErrMany
-	}
-	*list = numbers
-	return "ok", impl.OK
-}
-
 func (d *plainDesk) does(line string) (string, int) {
 	if g, code := impl.ReadGate(line); code == impl.OK {
 		return d.joins(g)
@@ -135,9 +127,11 @@ func (d *plainDesk) does(line string) (string, int) {
 	n, ok := plainNumbers(words[1:])
 	switch {
 	case ok && words[0] == "publics":
-		return takes(&d.publics, n)
+		d.publics = n
+		return "ok", impl.OK
 	case ok && words[0] == "inputs":
-		return takes(&d.inputs, n)
+		d.inputs = n
+		return "ok", impl.OK
 	case ok && words[0] == "select" && len(n) == 3:
 		return d.selects(n[0], n[1], n[2])
 	case ok && words[0] == "spoil" && len(n) == 1:
